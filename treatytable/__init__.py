@@ -1,0 +1,1 @@
+"""Treaties: reads what powers promise one another and judges what is broken."""
