@@ -5,6 +5,10 @@ from treatytable.desk import answers
 CLEAR = [0]
 PRINT = [4]
 PREVIEW = [6]
+JUDGE = [7]
+FIRST = [9]
+FACTS = [12]
+NOW = [13]
 
 POWERS = ("Austria", "Britain", "France")
 PROVINCES = ("Paris", "Vienna", "London", "Burgundy")
@@ -32,6 +36,18 @@ def read(text):
 
 def fact(power_number, kind, a, b=0):
     return [5, power_number, kind, a, b]
+
+
+def verdict(season):
+    return [8, season]
+
+
+def blame(power_number):
+    return [10, power_number]
+
+
+def pact(number):
+    return [11, number]
 
 
 def names():

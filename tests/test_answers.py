@@ -5,7 +5,9 @@ import io
 import sys
 import unittest
 
-from tests.helper import CLEAR, PREVIEW, PRINT, fact, names, power, province, read, run
+from tests.helper import (
+    CLEAR, FACTS, FIRST, JUDGE, NOW, PREVIEW, PRINT, blame, fact, names, pact, power, province, read, run, verdict,
+)
 from treatytable import desk
 
 TEXT = "France will own Paris if kept 2\nAustria will hold Vienna in 1 to 2 if kept 1 and Britain does not enter Paris"
@@ -16,8 +18,10 @@ def flat(calls):
 
 
 def some_calls():
-    refused = [power(""), province([256]), read([-1]), fact(9, 0, 0), read("x"), power("France")]
-    return flat(names() + [read(TEXT), fact(2, 0, 0), PREVIEW, PRINT] + refused + [CLEAR] + names() + [read(TEXT), PRINT, PREVIEW])
+    refused = [power(""), province([256]), read([-1]), fact(9, 0, 0), read("x"), power("France"), verdict(0), verdict(9), blame(9), pact(0)]
+    once = names() + [read(TEXT), fact(2, 0, 0), fact(0, 2, 1, 1), PREVIEW, PRINT, FACTS, JUDGE, NOW, JUDGE, verdict(1), FIRST, blame(0),
+                      pact(2), NOW]
+    return flat(once + refused + [CLEAR] + once)
 
 
 class Watched(list):
@@ -36,15 +40,24 @@ class Answers(unittest.TestCase):
         self.assertEqual(desk.answers(calls), [1, 0, 1, 0, 1, -3, 1, 0, 1, 1, 2, 0, 1, 2, 1, 1, 20, 19]
                          + list(b"Ab will not own Cd\n") + [4, 1, 1, 1, 1])
 
+    def test_how_answers_of_later_calls_lie(self):
+        calls = [1, 2, 65, 98, 2, 2, 67, 100, 3, 14] + list(b"Ab will own Cd") + [12, 5, 0, 0, 0, 0, 12, 7, 8, 1, 8, 2, 8, 0, 9, 10, 0,
+                                                                                10, 1, 11, 1, 11, 2, 13]
+        self.assertEqual(desk.answers(calls), [
+            1, 0, 1, 0, 2, 0, 1, 1, 0, 1, 1, 5, 1, 0, 0, 0, 0, 3, 1, 1, 2, 2, 1, 2, 1, -6, 1, -1, 3, 1, 1, 1, 2, 1, 1,
+            1, -1, 8, 0, 0, 4, 0, 0, 1, 100, 0, 1, -1, 3, 2, 1, 0])
+
     def test_each_call_alone_on_a_new_table(self):
         for call, given in ((CLEAR, [1, 0]), (power("Ab"), [1, 0]), (province("Ab"), [1, 0]), (read(""), [2, 0, 0]),
-                            (PRINT, [1, 0]), (fact(0, 0, 0), [1, -1]), (PREVIEW, [1, 0])):
+                            (PRINT, [1, 0]), (fact(0, 0, 0), [1, -1]), (PREVIEW, [1, 0]), (JUDGE, [2, 1, 0]), (verdict(1), [1, -6]),
+                            (FIRST, [2, 0, 0]), (blame(0), [1, -1]), (pact(1), [1, -1]), (FACTS, [1, 0]), (NOW, [3, 1, 0, 0])):
             self.assertEqual(desk.answers(call), given)
 
     def test_numbers_that_look_like_calls(self):
-        row = [0, 1, 2, 3, 4, 5, 6] * 5
+        row = [0, 1, 2, 3, 4, 5, 6, 7, 8, 9, 10, 11, 12, 13] * 2
         self.assertEqual(desk.answers(power(row) + province(row) + read([9, 3, 3, 3]) + fact(6, 6, 6, 6) + PREVIEW),
                          [1, -3, 1, -3, 4, 1, 1, 1, 1, 1, -1, 1, 0])
+        self.assertEqual(desk.answers(verdict(8) + blame(10) + pact(11) + fact(7, 7, 7, 7) + JUDGE), [1, -6, 1, -1, 1, -1, 1, -1, 2, 1, 0])
 
     def test_what_is_handed_in_stays(self):
         calls = some_calls()
@@ -66,6 +79,8 @@ class Answers(unittest.TestCase):
     def test_nothing_of_one_table_is_on_the_next(self):
         desk.answers(some_calls())
         self.assertEqual(run([PRINT, PREVIEW, fact(0, 0, 0), power("France")]), [[0], [0], [-1], [0]])
+        desk.answers(some_calls())
+        self.assertEqual(run([NOW, FACTS, verdict(1), FIRST, blame(0), pact(1), JUDGE]), [[1, 0, 0], [0], [-6], [0, 0], [-1], [-1], [1, 0]])
 
     def test_a_list_of_whole_numbers(self):
         given = desk.answers(some_calls())

@@ -2,14 +2,19 @@
 
 from treatytable.judging import verdicts_now
 from treatytable.names import are_bytes, is_name, text_of
+from treatytable.past import broken_cases, cases_of, first_season
 from treatytable.printing import printed
 from treatytable.reading import Reading
-from treatytable.table import MOST_FACTS, MOST_POWERS, MOST_PROMISES, MOST_PROVINCES, OWN, SUPPORT_MOVE, Table
+from treatytable.table import (
+    FIRST_SEASON, LAST_SEASON, MOST_FACTS, MOST_POWERS, MOST_PROMISES, MOST_PROVINCES, OWN, SUPPORT_MOVE, Table,
+)
 
 OUT_OF_RANGE = -1
 FULL = -2
 WRONG_FORM = -3
 THERE_ALREADY = -4
+NEVER_JUDGED = -5
+NOT_JUDGED = -6
 
 MOST_NAME_BYTES = 40
 MOST_TEXT_BYTES = 2000
@@ -122,6 +127,65 @@ def answer_preview(table, cursor):
     return row_answer(verdicts_now(table))
 
 
+def answer_judge(table, cursor):
+    season = table.season
+    if season == LAST_SEASON:
+        return [NEVER_JUDGED]
+    verdicts = verdicts_now(table)
+    table.end_season(verdicts)
+    return [season] + row_answer(verdicts)
+
+
+def answer_verdict(table, cursor):
+    season = cursor.take_one()
+    if not FIRST_SEASON <= season <= LAST_SEASON:
+        return [OUT_OF_RANGE]
+    if season >= table.season:
+        return [NOT_JUDGED]
+    return row_answer(table.judged[season - FIRST_SEASON])
+
+
+def answer_first(table, cursor):
+    cases = broken_cases(table)
+    season = first_season(cases)
+    return [season] + row_answer([case[1] for case in cases if case[0] == season])
+
+
+def answer_blame(table, cursor):
+    power = cursor.take_one()
+    if not 0 <= power < len(table.powers):
+        return [OUT_OF_RANGE]
+    cases = cases_of(table, power)
+    return [first_season(cases), len(cases)]
+
+
+def promise_answer(promise):
+    answer = [promise.power, promise.negated]
+    answer.extend(promise.deed)
+    answer.extend([promise.since, promise.till, len(promise.conditions)])
+    for condition in promise.conditions:
+        answer.extend(condition)
+    return answer
+
+
+def answer_pact(table, cursor):
+    number = cursor.take_one()
+    if not 1 <= number <= len(table.promises):
+        return [OUT_OF_RANGE]
+    return promise_answer(table.promises[number - 1])
+
+
+def answer_facts(table, cursor):
+    answer = [len(table.facts)]
+    for fact in sorted(table.facts):
+        answer.extend(fact)
+    return answer
+
+
+def answer_now(table, cursor):
+    return [table.season, len(table.promises), len(table.facts)]
+
+
 # A call's number is its place here.
 CALLS = (
     answer_clear,
@@ -131,6 +195,13 @@ CALLS = (
     answer_print,
     answer_fact,
     answer_preview,
+    answer_judge,
+    answer_verdict,
+    answer_first,
+    answer_blame,
+    answer_pact,
+    answer_facts,
+    answer_now,
 )
 
 

@@ -51,3 +51,9 @@ class Table:
         self.facts = {}
         # The row of season 1 is the first, and so on: seasons are judged one after another.
         self.judged = []
+
+    def end_season(self, verdicts):
+        """Keep the verdicts of the season that goes on, and let the next one begin."""
+        self.judged.append(verdicts)
+        self.season += 1
+        self.facts = {}
